@@ -1,0 +1,1 @@
+"""Words of envelopes: folded, and how many slips apart."""

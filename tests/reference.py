@@ -1,0 +1,144 @@
+"""What the document says of folding, told a second time in another way, to hold the program against.
+
+The table is written out row by row, without the program's short cuts; the words are found
+by a pattern over one mark a character. It shares no code with the package.
+"""
+
+import re
+
+# first-last, what they stand for; a "+" behind it: the first stands for it, the others for what follows.
+LETTER_ROWS = """
+30-39 0+    61-7A a+    41-5A a+
+AA-AA a     BA-BA o     B9-B9 1     B2-B2 2     B3-B3 3
+2070-2070 0             2074-2079 4+            2080-2089 0+
+C0-C5 a     C7-C7 c     C8-CB e     CC-CF i     D0-D0 d     D1-D1 n
+D2-D6 o     D8-D8 o     D9-DC u     DD-DD y
+C6-C6 ae    DE-DE th    DF-DF ss
+E0-E5 a     E6-E6 ae    E7-E7 c     E8-EB e     EC-EF i     F0-F0 d
+F1-F1 n     F2-F6 o     F8-F8 o     F9-FC u     FD-FD y     FE-FE th    FF-FF y
+100-105 a   106-10D c   10E-111 d   112-11B e   11C-123 g   124-127 h
+128-131 i   134-134 j   135-135 j   136-138 k
+132-133 ij  152-153 oe  14A-14B ng
+139-142 l   143-149 n   14C-151 o   154-159 r   15A-161 s   162-167 t
+168-173 u   174-174 w   175-175 w   176-178 y   179-17E z   17F-17F s
+218-218 s   219-219 s   21A-21A t   21B-21B t
+1E9E-1E9E ss
+2116-2116 no
+FB00-FB00 ff    FB01-FB01 fi    FB02-FB02 fl    FB03-FB03 ffi
+FB04-FB04 ffl   FB05-FB05 st    FB06-FB06 st
+FF10-FF19 0+    FF21-FF3A a+    FF41-FF5A a+
+"""
+
+VANISHING_ROWS = "27-27 60-60 AD-AD B4-B4 2BC-2BC 300-36F 200B-200D 2018-2018 2019-2019 2060-2060 FEFF-FEFF"
+
+LEAST = -2147483648
+GREATEST = 2147483647
+
+
+def bounds(row):
+    first, last = row.split("-")
+    return int(first, 16), int(last, 16)
+
+
+def letter_ranges():
+    """Of each range of the table: its first and last character, and what its characters stand for in turn."""
+    signs = LETTER_ROWS.split()
+    ranges = []
+    for row, letters in zip(signs[::2], signs[1::2]):
+        first, last = bounds(row)
+        size = last - first + 1
+        if letters.endswith("+"):
+            each = [chr(ord(letters[0]) + step) for step in range(size)]
+        else:
+            each = [letters] * size
+        ranges.append((first, last, each))
+    return ranges
+
+
+def vanishing_ranges():
+    return [bounds(row) for row in VANISHING_ROWS.split()]
+
+
+def letters_by_character():
+    stand = {}
+    for first, last, each in letter_ranges():
+        for step, letters in enumerate(each):
+            if first + step in stand:
+                raise ValueError(f"{first + step:X} stands twice in the table")
+            stand[first + step] = letters
+    return stand
+
+
+STAND = letters_by_character()
+VANISH = frozenset(c for first, last in vanishing_ranges() for c in range(first, last + 1))
+
+
+def is_wide(number):
+    return number in range(1, 1114112) and number not in range(55296, 57344)
+
+
+def mark(character):
+    """L: stands for letters, V: vanishes, E: ends a line, P: parts."""
+    if character in STAND:
+        return "L"
+    if character in VANISH:
+        return "V"
+    return "E" if character == 10 else "P"
+
+
+def words_found(text):
+    """Of each word of a text of wide characters: place, span, line, letters (as a str)."""
+    found = []
+    line = 0
+    start = 0
+    for row in "".join(map(mark, text)).split("E"):
+        here = list(re.finditer("L(?:[LV]*L)?", row))
+        for match in here:
+            place = start + match.start()
+            span = len(match.group())
+            letters = "".join(STAND.get(c, "") for c in text[place:place + span])
+            found.append((place, span, line, letters))
+        line += 1 if here else 0
+        start += len(row) + 1
+    return found
+
+
+def refusal(text):
+    if len(text) > 512:
+        return [-2]
+    for place, number in enumerate(text):
+        if not is_wide(number):
+            return [-6, place]
+    found = words_found(text)
+    lines = {line for _, _, line, _ in found}
+    if len(lines) > 8 or len(found) > 128 or max([len(word[3]) for word in found], default=0) > 32:
+        return [-2]
+    return None
+
+
+def fold(text):
+    refused = refusal(text)
+    if refused:
+        return refused
+    plain = {"V": "", "E": "\n", "P": " "}
+    written = "".join(STAND[c] if mark(c) == "L" else plain[mark(c)] for c in text)
+    rows = [row.split() for row in written.split("\n")]
+    folded = "\n".join(" ".join(row) for row in rows if row)
+    return [len(folded)] + signs(folded)
+
+
+def words(text):
+    refused = refusal(text)
+    if refused:
+        return refused
+    found = words_found(text)
+    answer = [len(found)]
+    for place, span, line, letters in found:
+        digits = 1 if letters.isdigit() else 0
+        answer += [place, span, line, digits, len(letters)] + signs(letters)
+    return answer
+
+
+def signs(written):
+    """The text as a list of numbers."""
+    return [ord(sign) for sign in written]

@@ -1,0 +1,124 @@
+"""The package keeps to the small part of Python it is written in, and imports nothing."""
+
+import ast
+import builtins
+import pathlib
+import re
+import unittest
+
+PACKAGE = pathlib.Path(__file__).resolve().parent.parent / "envelopewords"
+
+OWN_NAMES = set(
+    "len range enumerate zip min max sum abs sorted reversed int str bool list tuple dict set frozenset"
+    " isinstance ord repr any all divmod Exception ValueError TypeError KeyError IndexError LookupError"
+    " ZeroDivisionError ArithmeticError OverflowError RuntimeError NotImplementedError AttributeError"
+    " StopIteration".split())
+
+OWN_METHODS = set(
+    "append clear copy count endswith extend find get index insert isalnum isalpha isdigit islower isspace"
+    " isupper items join keys ljust lower lstrip partition pop remove replace reverse rfind rjust rpartition"
+    " rsplit rstrip setdefault split splitlines startswith strip update upper values zfill bit_length".split())
+
+WORDS_NOT_USED = set(
+    "type typing typing_extensions enum Enum IntEnum StrEnum Flag IntFlag Generic Protocol ABC ABCMeta"
+    " namedtuple NamedTuple TypedDict TYPE_CHECKING abstractmethod".split())
+
+PARTS_NOT_USED = ("dataclass", "overload", "contextmanager")
+
+FORMS_NOT_USED = (
+    ast.Import, ast.ImportFrom, ast.With, ast.Match, ast.Delete, ast.Global, ast.Nonlocal, ast.Assert,
+    ast.Yield, ast.YieldFrom, ast.AsyncFunctionDef, ast.AsyncFor, ast.AsyncWith, ast.Await, ast.SetComp,
+    ast.DictComp, ast.GeneratorExp, ast.NamedExpr, ast.Starred, ast.Div, ast.AnnAssign,
+)
+
+AT_THE_TOP = (ast.FunctionDef, ast.ClassDef, ast.Assign)
+
+
+def each_file():
+    """Of each file of the package: what is written in it, and the same as a tree."""
+    written = [path.read_text(encoding="utf-8") for path in sorted(PACKAGE.rglob("*.py"))]
+    return [(source, ast.parse(source)) for source in written]
+
+
+def bound_names(tree):
+    """Every name that the file binds."""
+    names = []
+    for node in ast.walk(tree):
+        if isinstance(node, (ast.FunctionDef, ast.ClassDef)):
+            names.append(node.name)
+        elif isinstance(node, ast.arg):
+            names.append(node.arg)
+        elif isinstance(node, ast.Name) and isinstance(node.ctx, ast.Store):
+            names.append(node.id)
+        elif isinstance(node, ast.Attribute) and isinstance(node.ctx, ast.Store):
+            names.append(node.attr)
+    return [name for name in names if name != "__init__"]
+
+
+class TestForm(unittest.TestCase):
+
+    def test_package_holds_python_files_alone(self):
+        names = [path.name for path in PACKAGE.iterdir() if path.name != "__pycache__"]
+        self.assertIn("__init__.py", names)
+        self.assertIn("desk.py", names)
+        for name in names:
+            self.assertRegex(name, r"^[a-z0-9_]+\.py$")
+
+    def test_sizes_and_signs(self):
+        for source, tree in each_file():
+            lines = source.split("\n")
+            self.assertLessEqual(len(lines), 401)
+            self.assertLessEqual(max(len(line) for line in lines), 120)
+            self.assertRegex(source, r"^[ -~\n]*$")
+            for node in ast.walk(tree):
+                if isinstance(node, ast.FunctionDef):
+                    self.assertLessEqual(node.end_lineno - node.lineno + 1, 40, node.name)
+
+    def test_forms(self):
+        for source, tree in each_file():
+            for node in ast.walk(tree):
+                self.assertNotIsInstance(node, FORMS_NOT_USED)
+                if isinstance(node, ast.Assign):
+                    self.assertEqual(len(node.targets), 1)
+                if isinstance(node, (ast.For, ast.While)):
+                    self.assertEqual(node.orelse, [])
+                if isinstance(node, (ast.FunctionDef, ast.ClassDef)):
+                    self.assertEqual(node.decorator_list, [])
+                if isinstance(node, ast.Constant):
+                    self.assertIn(type(node.value), (int, str, bool, type(None)))
+
+    def test_top_of_a_file(self):
+        for source, tree in each_file():
+            self.assertIsNotNone(ast.get_docstring(tree))
+            for node in tree.body[1:]:
+                self.assertIsInstance(node, AT_THE_TOP)
+                if isinstance(node, ast.Assign):
+                    ast.literal_eval(node.value)
+            once = [node.targets[0].id if isinstance(node, ast.Assign) else node.name for node in tree.body[1:]]
+            self.assertEqual(len(once), len(set(once)))
+
+    def test_names(self):
+        for source, tree in each_file():
+            for name in bound_names(tree):
+                self.assertRegex(name, r"^[A-Za-z][A-Za-z0-9_]*$")
+                self.assertFalse(hasattr(builtins, name), name)
+            for node in ast.walk(tree):
+                if isinstance(node, ast.Name) and hasattr(builtins, node.id):
+                    self.assertIn(node.id, OWN_NAMES)
+
+    def test_methods(self):
+        for source, tree in each_file():
+            own = {node.name for node in ast.walk(tree) if isinstance(node, ast.FunctionDef)}
+            for node in ast.walk(tree):
+                if isinstance(node, ast.Call) and isinstance(node.func, ast.Attribute):
+                    self.assertIn(node.func.attr, OWN_METHODS | own)
+
+    def test_words_that_are_not_used(self):
+        for source, tree in each_file():
+            self.assertEqual(set(re.findall(r"\w+", source)) & WORDS_NOT_USED, set())
+            for part in PARTS_NOT_USED:
+                self.assertNotIn(part, source)
+
+
+if __name__ == "__main__":
+    unittest.main()

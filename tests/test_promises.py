@@ -1,0 +1,155 @@
+"""Promise 1, and what the interface says of every call."""
+
+import contextlib
+import io
+import itertools
+import unittest
+
+from envelopewords import desk
+from envelopewords.desk import fold, words
+from reference import signs
+
+SAMPLES = (
+    [],
+    signs("Jos\u00e9 O\u2019Neill,\n12-14 \u0132sselstra\u00dfe\n\n\u21161 \ufb03"),
+    [32] * 512,
+    [32] * 513,
+    [97, 0, 97],
+    [97] * 33,
+    [97, 10] * 9,
+    [97, 32] * 129,
+    [-2147483648, 2147483647],
+)
+
+
+class Unchangeable(list):
+    """A list that refuses to be changed, even for a while."""
+
+    def refuse(self, *given, **named):
+        raise AssertionError("what was handed in is changed")
+
+    append = clear = extend = insert = pop = remove = reverse = sort = refuse
+    __setitem__ = __delitem__ = __iadd__ = __imul__ = refuse
+
+
+def letters_alone(answer):
+    """What words answers, without the places and spans: line, digits, letters of each word."""
+    told = []
+    at = 1
+    while at < len(answer):
+        size = answer[at + 4]
+        told.append((answer[at + 2], answer[at + 3], answer[at + 5:at + 5 + size]))
+        at += 5 + size
+    return told
+
+
+class TestFoldedAgain(unittest.TestCase):
+
+    def check(self, text):
+        once = fold(text)
+        self.assertEqual(once[0], len(once) - 1)
+        # A folded text may have more numbers than one that is handed in: then it is refused like any other.
+        if len(once) - 1 > 512:
+            self.assertEqual(fold(once[1:]), [-2])
+            return
+        self.assertEqual(fold(once[1:]), once)
+        self.assertEqual(letters_alone(words(once[1:])), letters_alone(words(text)))
+
+    def test_short_texts(self):
+        for size in range(6):
+            for text in itertools.product((0x41, 0xFB04, 0x32, 0x2019, 0x2C, 10), repeat=size):
+                self.check(list(text))
+
+    def test_at_the_bounds(self):
+        self.check([0x41, 44] * 128)
+        self.check(signs("\n \n".join("ABCDEFGH")))
+        self.check([0xC6] * 16)
+        self.check(([0xFB03] * 10 + [32]) * 16)
+        self.check(([0xFB03] * 10 + [32]) * 17)
+        self.check([32] * 512)
+
+    def test_folded_ends_with_a_word(self):
+        for text in (signs(" a "), signs("\na\n"), signs("a\n\n "), signs("a'\n'")):
+            self.assertEqual(fold(text), [1, 97])
+
+
+class TestWordsHangOnLettersAlone(unittest.TestCase):
+
+    def check_same(self, text, other):
+        self.assertEqual(fold(text), fold(other))
+        self.assertEqual(letters_alone(words(text)), letters_alone(words(other)))
+
+    def test_vanishing_characters_change_nothing(self):
+        plain = signs("ab 12\n\nc")
+        for place in range(len(plain) + 1):
+            for vanishing in (0x27, 0x300, 0x200D, 0xFEFF):
+                self.check_same(plain, plain[:place] + [vanishing] + plain[place:])
+
+    def test_which_character_parts_changes_nothing(self):
+        for parting in (1, 9, 13, 44, 0xD7, 0xF7, 0x3042, 0x10FFFF):
+            self.check_same(signs("ab 12\nc d"), [parting if c == 32 else c for c in signs("ab 12\nc d")])
+
+    def test_which_character_stands_for_the_letters_changes_nothing(self):
+        self.check_same(signs("strasse"), signs("\uff33T\u0155\u00c0\u1e9e\u00cb"))
+        self.check_same(signs("ffl"), [0xFB04])
+        self.check_same(signs("ffl"), [0xFB00, 0x13F])
+
+
+class TestEveryCall(unittest.TestCase):
+
+    def test_what_is_handed_in_stays(self):
+        for call in (fold, words):
+            for sample in SAMPLES:
+                given = list(sample)
+                call(given)
+                self.assertEqual(given, sample)
+                call(Unchangeable(sample))
+
+    def test_nothing_is_kept(self):
+        for call in (fold, words):
+            for sample in SAMPLES:
+                first = call(list(sample))
+                kept = list(first)
+                first.append(7)
+                first[0] = 99
+                self.assertEqual(call(list(sample)), kept)
+            answers = [call(list(sample)) for sample in SAMPLES]
+            backwards = [call(list(sample)) for sample in reversed(SAMPLES)]
+            self.assertEqual(answers, list(reversed(backwards)))
+
+    def test_answer_is_another_list(self):
+        for call in (fold, words):
+            text = [97]
+            self.assertIsNot(call(text), text)
+            self.assertIsNot(call(text), call(text))
+
+    def test_changing_one_answer_leaves_the_other(self):
+        for call in (fold, words):
+            text = signs("ab 1")
+            first = call(text)
+            second = call(text)
+            first.clear()
+            self.assertEqual(second, call(text))
+
+    def test_answers_are_lists_of_whole_numbers(self):
+        for call in (fold, words):
+            for sample in SAMPLES:
+                answer = call(list(sample))
+                self.assertIs(type(answer), list)
+                self.assertEqual({type(number) for number in answer}, {int})
+
+    def test_nothing_is_printed(self):
+        out = io.StringIO()
+        with contextlib.redirect_stdout(out), contextlib.redirect_stderr(out):
+            for sample in SAMPLES:
+                fold(list(sample))
+                words(list(sample))
+        self.assertEqual(out.getvalue(), "")
+
+    def test_argument_is_called_text(self):
+        self.assertEqual(desk.fold(text=[65]), [1, 97])
+        self.assertEqual(desk.words(text=[65]), [1, 0, 1, 0, 0, 1, 97])
+
+
+if __name__ == "__main__":
+    unittest.main()
