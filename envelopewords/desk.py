@@ -1,10 +1,12 @@
-"""The desk: texts of wide characters are read into plain words, and folded."""
+"""The desk: texts of wide characters become plain words, and words are held against words."""
 
 MOST_CHARACTERS = 512
 MOST_LINES = 8
 MOST_WORDS = 128
 MOST_LETTERS = 32
+MOST_CHAINED = 16
 
+NO_WORD = -1
 TOO_MUCH = -2
 NO_CHARACTER = -6
 
@@ -14,7 +16,10 @@ LAST_SURROGATE = 57343
 
 LINE_FEED = 10
 BLANK = 32
+FIRST_DIGIT = 48
 LAST_DIGIT = 57
+FIRST_SMALL = 97
+LAST_SMALL = 122
 
 # Each row: first character, last character, the letter of the first;
 # those behind the first stand for the letters that follow, one by one.
@@ -139,6 +144,30 @@ def words(text):
     return answer
 
 
+def apart(a, b):
+    """Answer how far apart two words are; or a refusal."""
+    if not (is_word(a) and is_word(b)):
+        return [NO_WORD]
+    return [slips_between(a, b)]
+
+
+def chain(a, b):
+    """Answer how far apart two words are, then the chain from a to b, word by word; or a refusal."""
+    if not (is_word(a) and is_word(b)):
+        return [NO_WORD]
+    if len(a) > MOST_CHAINED or len(b) > MOST_CHAINED:
+        return [TOO_MUCH]
+    left = slips_between(a, b)
+    answer = [left, len(a)] + a
+    word = a
+    while left > 0:
+        left -= 1
+        word = next_in_chain(word, b, left)
+        answer.append(len(word))
+        answer.extend(word)
+    return answer
+
+
 def refusal(text):
     """Give the answer that refuses the text, or an empty list if nothing is to be refused."""
     if len(text) > MOST_CHARACTERS:
@@ -222,3 +251,86 @@ def digits_alone(letters):
     """Give 1 if all letters are digits, else 0."""
     # Of all letters the digits are the lowest bytes.
     return 0 if any([letter > LAST_DIGIT for letter in letters]) else 1
+
+
+def is_word(given):
+    """Tell whether bytes that are handed over are a word."""
+    return len(given) <= MOST_LETTERS and all([is_letter(byte) for byte in given])
+
+
+def is_letter(byte):
+    """Tell whether the byte is a letter."""
+    return FIRST_DIGIT <= byte <= LAST_DIGIT or FIRST_SMALL <= byte <= LAST_SMALL
+
+
+def slips_between(a, b):
+    """Give how many slips at least lead from a to b."""
+    # Row i, place j: how far apart the first i letters of a and the first j of b are.
+    rows = [list(range(len(b) + 1))]
+    last_rows = {}
+    for letter in a:
+        rows.append(row_of(letter, b, rows, last_rows))
+        last_rows[letter] = len(rows) - 1
+    return rows[-1][-1]
+
+
+def row_of(letter, b, rows, last_rows):
+    """Give the row that a letter of a adds to the rows; last_rows tells the last row of each letter before it."""
+    above = rows[-1]
+    row = [len(rows)]
+    last_place = 0
+    for before, other in enumerate(b):
+        if letter == other:
+            # Taking the last letter that both have from both changes nothing.
+            row.append(above[before])
+            last_place = before + 1
+        else:
+            least = 1 + min(above[before], above[before + 1], row[before])
+            last_row = last_rows.get(other, 0)
+            if last_row > 0 and last_place > 0:
+                # The two change places once what lies between them in a is taken away;
+                # then what lies between them in b is put in.
+                between = len(rows) - last_row - 1 + before - last_place
+                least = min(least, rows[last_row - 1][last_place - 1] + between + 1)
+            row.append(least)
+    return row
+
+
+def next_in_chain(word, goal, left):
+    """Give the first, in order, of the words one slip from the word that have so many slips left to the goal."""
+    # A letter that the goal doesn't have would have to go again, which is a slip too many: none is put in.
+    others = one_slip_away(word, sorted(set(goal)))
+    at = 0
+    while slips_between(others[at], goal) != left:
+        at += 1
+    return others[at]
+
+
+def one_slip_away(word, letters):
+    """Give, in order and each once, the words one slip from the word that take new letters from these alone."""
+    return sorted(with_one_less(word)) + sorted(with_as_many(word, letters)) + sorted(with_one_more(word, letters))
+
+
+def with_one_less(word):
+    """Give each word that has one letter less, once."""
+    # Whichever of equal neighbours is taken away, the same word is left.
+    return [word[:at] + word[at + 1:] for at in range(len(word)) if at == 0 or word[at - 1] != word[at]]
+
+
+def with_as_many(word, letters):
+    """Give each word that has one letter changed, or two neighbours in each other's place, once."""
+    found = []
+    for at, old in enumerate(word):
+        found.extend([word[:at] + [letter] + word[at + 1:] for letter in letters if letter != old])
+        if at > 0 and word[at - 1] != old:
+            found.append(word[:at - 1] + [old, word[at - 1]] + word[at + 1:])
+    return found
+
+
+def with_one_more(word, letters):
+    """Give each word that has one letter more, once."""
+    found = []
+    for at in range(len(word) + 1):
+        # Behind its like a letter makes the same word as ahead of it.
+        found.extend([word[:at] + [letter] + word[at:] for letter in letters if at == 0 or word[at - 1] != letter])
+    return found

@@ -1,9 +1,12 @@
-"""What the document says of folding, told a second time in another way, to hold the program against.
+"""What the document says of folding and slips, told a second time in another way, to hold the program against.
 
 The table is written out row by row, without the program's short cuts; the words are found
-by a pattern over one mark a character. It shares no code with the package.
+by a pattern over one mark a character. Slips are made one by one, and how far apart words are is
+found by walking from word to word; for longer words by a table that tries every pair that may
+change places. It shares no code with the package.
 """
 
+import functools
 import re
 
 # first-last, what they stand for; a "+" behind it: the first stands for it, the others for what follows.
@@ -142,3 +145,99 @@ def words(text):
 def signs(written):
     """The text as a list of numbers."""
     return [ord(sign) for sign in written]
+
+
+LETTERS = "0123456789abcdefghijklmnopqrstuvwxyz"
+
+
+def in_order(word):
+    """The key by which words stand in order."""
+    return len(word), word.encode("ascii")
+
+
+def words_up_to(size, letters):
+    """Every word of these letters of at most so many."""
+    found = [""]
+    last = [""]
+    for _ in range(size):
+        last = [word + letter for word in last for letter in letters]
+        found += last
+    return found
+
+
+def one_slip_from(word, letters=LETTERS):
+    """The words one slip from the word, as a set; letters: those that may come in."""
+    made = set()
+    for at in range(len(word) + 1):
+        head, tail = word[:at], word[at:]
+        made.add(head + tail[1:])
+        made.add(head + tail[1:2] + tail[:1] + tail[2:])
+        for letter in letters:
+            made.add(head + letter + tail)
+            made.add(head + letter + tail[1:])
+    return made - {word}
+
+
+class Walk:
+    """Slips made one by one, between words of these letters of at most so many."""
+
+    def __init__(self, size, letters):
+        self.slips = {word: [other for other in one_slip_from(word, letters) if len(other) <= size]
+                      for word in words_up_to(size, letters)}
+
+    @functools.lru_cache(maxsize=None)
+    def all_from(self, word):
+        """Of each word, how many slips at least lead to it from the word."""
+        far = {word: 0}
+        edge = [word]
+        while edge:
+            beyond = []
+            for here in edge:
+                for other in self.slips[here]:
+                    if other not in far:
+                        far[other] = far[here] + 1
+                        beyond.append(other)
+            edge = beyond
+        return far
+
+    @functools.lru_cache(maxsize=None)
+    def first_row(self, a, b):
+        """The first of all shortest rows of words from a to b, by comparing whole rows."""
+        if a == b:
+            return (a,)
+        far = self.all_from(b)
+        rows = [self.first_row(other, b) for other in self.slips[a] if far[other] == far[a] - 1]
+        return (a,) + min(rows, key=lambda row: [in_order(word) for word in row])
+
+
+def slips_apart(a, b):
+    """How far apart two words are, for longer ones: whichever pair changes places as the last one is tried."""
+    far = {}
+    for i in range(len(a) + 1):
+        for j in range(len(b) + 1):
+            ways = [i + j]
+            if i:
+                ways.append(far[i - 1, j] + 1)
+            if j:
+                ways.append(far[i, j - 1] + 1)
+            if i and j:
+                ways.append(far[i - 1, j - 1] + (a[i - 1] != b[j - 1]))
+                ways += [far[k, m] + (i - k - 2) + 1 + (j - m - 2)
+                         for k in range(i - 1) if a[k] == b[j - 1]
+                         for m in range(j - 1) if b[m] == a[i - 1]]
+            far[i, j] = min(ways)
+    return far[len(a), len(b)]
+
+
+def drawn_words(count, size, letters, seed):
+    """So many words of at most the size, drawn from the letters; the same ones each time."""
+    state = seed
+    found = []
+    for _ in range(count):
+        drawn = []
+        for _ in range(size + 1):
+            state = (state * 1103515245 + 12345) % 2147483648
+            drawn.append(state >> 16)
+        length = size - drawn[0] % (size // 4 + 1)
+        found.append("".join(letters[number % len(letters)] for number in drawn[1:length + 1]))
+    return found

@@ -33,6 +33,15 @@ FORMS_NOT_USED = (
 
 AT_THE_TOP = (ast.FunctionDef, ast.ClassDef, ast.Assign)
 
+KEYWORDS = {"sorted": {"key", "reverse"}, "min": {"key", "default"}, "max": {"key", "default"}, "sum": {"start"},
+            "enumerate": {"start"}, "zip": {"strict"}}
+
+WALKED_AT_ONCE = ("range", "enumerate", "zip", "reversed")
+
+WALK_IN_A_CALL = ("list", "tuple", "dict", "sorted", "sum", "any", "all", "enumerate", "zip", "min", "max")
+
+CHANGING = ("append", "clear", "extend", "insert", "pop", "remove", "reverse", "setdefault", "update")
+
 
 def each_file():
     """Of each file of the package: what is written in it, and the same as a tree."""
@@ -53,6 +62,47 @@ def bound_names(tree):
         elif isinstance(node, ast.Attribute) and isinstance(node.ctx, ast.Store):
             names.append(node.attr)
     return [name for name in names if name != "__init__"]
+
+
+def called(node):
+    """The plain name that is called there, or an empty text."""
+    plain = isinstance(node, ast.Call) and isinstance(node.func, ast.Name)
+    return node.func.id if plain else ""
+
+
+def walked_on_the_spot(tree):
+    """Every expression that stands where a walk may."""
+    spots = []
+    for node in ast.walk(tree):
+        if isinstance(node, (ast.For, ast.comprehension)):
+            spots.append(node.iter)
+        elif called(node) in WALK_IN_A_CALL:
+            spots += node.args[:1]
+    return spots
+
+
+def names_walked(loop):
+    """The names whose values the loop walks, itself or through enumerate, zip, reversed."""
+    walked = loop.iter.args if called(loop.iter) in WALKED_AT_ONCE else [loop.iter]
+    return {node.id for node in walked if isinstance(node, ast.Name)}
+
+
+def names_changed(loop):
+    """The names whose values are changed within the loop."""
+    names = set()
+    for node in ast.walk(loop):
+        if isinstance(node, ast.Call) and isinstance(node.func, ast.Attribute) and node.func.attr in CHANGING:
+            names.add(getattr(node.func.value, "id", ""))
+        elif isinstance(node, ast.Subscript) and isinstance(node.ctx, ast.Store):
+            names.add(getattr(node.value, "id", ""))
+        elif isinstance(node, ast.AugAssign):
+            names.add(getattr(node.target, "id", ""))
+    return names - {""}
+
+
+def names_at_the_top(tree):
+    """The names of the file's top that are given a value."""
+    return {node.targets[0].id for node in tree.body if isinstance(node, ast.Assign)}
 
 
 class TestForm(unittest.TestCase):
@@ -118,6 +168,46 @@ class TestForm(unittest.TestCase):
             self.assertEqual(set(re.findall(r"\w+", source)) & WORDS_NOT_USED, set())
             for part in PARTS_NOT_USED:
                 self.assertNotIn(part, source)
+
+    def test_parameters(self):
+        for source, tree in each_file():
+            for node in ast.walk(tree):
+                if isinstance(node, ast.arguments):
+                    self.assertIsNone(node.vararg)
+                    self.assertIsNone(node.kwarg)
+                    self.assertEqual(node.kwonlyargs + node.posonlyargs, [])
+
+    def test_keywords(self):
+        for source, tree in each_file():
+            for node in ast.walk(tree):
+                if isinstance(node, ast.Call) and (called(node) in OWN_NAMES or isinstance(node.func, ast.Attribute)):
+                    given = {keyword.arg for keyword in node.keywords}
+                    self.assertLessEqual(given, KEYWORDS.get(called(node), set()))
+
+    def test_walked_at_once(self):
+        for source, tree in each_file():
+            spots = walked_on_the_spot(tree)
+            for node in ast.walk(tree):
+                if called(node) in WALKED_AT_ONCE:
+                    self.assertIn(node, spots, f"line {node.lineno}")
+
+    def test_what_is_walked_is_not_changed(self):
+        for source, tree in each_file():
+            for node in ast.walk(tree):
+                if isinstance(node, ast.For):
+                    self.assertEqual(names_walked(node) & names_changed(node), set(), f"line {node.lineno}")
+
+    def test_sets_stand_within_sorted_or_len(self):
+        for source, tree in each_file():
+            within = [node.args[0] for node in ast.walk(tree) if called(node) in ("sorted", "len")]
+            for node in ast.walk(tree):
+                self.assertNotIsInstance(node, ast.Set)
+                if called(node) in ("set", "frozenset"):
+                    self.assertIn(node, within, f"line {node.lineno}")
+
+    def test_nothing_at_the_top_is_changed(self):
+        for source, tree in each_file():
+            self.assertEqual(names_at_the_top(tree) & names_changed(tree), set())
 
 
 if __name__ == "__main__":

@@ -6,10 +6,10 @@ import itertools
 import unittest
 
 from envelopewords import desk
-from envelopewords.desk import fold, words
+from envelopewords.desk import apart, chain, fold, words
 from reference import signs
 
-SAMPLES = (
+TEXTS = (
     [],
     signs("Jos\u00e9 O\u2019Neill,\n12-14 \u0132sselstra\u00dfe\n\n\u21161 \ufb03"),
     [32] * 512,
@@ -21,6 +21,28 @@ SAMPLES = (
     [-2147483648, 2147483647],
 )
 
+PAIRS = (
+    ([], []),
+    ([], signs("abc")),
+    (signs("ca"), signs("abc")),
+    (signs("abc"), signs("ca")),
+    (signs("strasse"), signs("strasse")),
+    (signs("0123456789abcdef"), signs("zyxwvutsrqponmlk")),
+    ([97] * 32, [98] * 32),
+    ([97] * 33, [98]),
+    ([98], [97] * 60),
+    ([65], signs("a")),
+    ([97] * 17, [0]),
+)
+
+# Of each call what it is handed, time after time.
+CALLS = (
+    (fold, [(text,) for text in TEXTS]),
+    (words, [(text,) for text in TEXTS]),
+    (apart, PAIRS),
+    (chain, PAIRS),
+)
+
 
 class Unchangeable(list):
     """A list that refuses to be changed, even for a while."""
@@ -30,6 +52,11 @@ class Unchangeable(list):
 
     append = clear = extend = insert = pop = remove = reverse = sort = refuse
     __setitem__ = __delitem__ = __iadd__ = __imul__ = refuse
+
+
+def copies(sample):
+    """What a call is handed, as lists of its own."""
+    return [list(given) for given in sample]
 
 
 def letters_alone(answer):
@@ -98,57 +125,76 @@ class TestWordsHangOnLettersAlone(unittest.TestCase):
 class TestEveryCall(unittest.TestCase):
 
     def test_what_is_handed_in_stays(self):
-        for call in (fold, words):
-            for sample in SAMPLES:
-                given = list(sample)
-                call(given)
-                self.assertEqual(given, sample)
-                call(Unchangeable(sample))
+        for call, samples in CALLS:
+            for sample in samples:
+                given = copies(sample)
+                call(*given)
+                self.assertEqual(given, list(sample))
+                call(*[Unchangeable(part) for part in sample])
+
+    def test_one_list_handed_in_twice(self):
+        for call in (apart, chain):
+            for a, b in PAIRS:
+                given = list(a)
+                self.assertEqual(call(given, given), call(list(a), list(a)))
+                self.assertEqual(given, a)
 
     def test_nothing_is_kept(self):
-        for call in (fold, words):
-            for sample in SAMPLES:
-                first = call(list(sample))
+        for call, samples in CALLS:
+            for sample in samples:
+                first = call(*copies(sample))
                 kept = list(first)
                 first.append(7)
                 first[0] = 99
-                self.assertEqual(call(list(sample)), kept)
-            answers = [call(list(sample)) for sample in SAMPLES]
-            backwards = [call(list(sample)) for sample in reversed(SAMPLES)]
+                self.assertEqual(call(*copies(sample)), kept)
+            answers = [call(*copies(sample)) for sample in samples]
+            backwards = [call(*copies(sample)) for sample in reversed(samples)]
             self.assertEqual(answers, list(reversed(backwards)))
 
+    def test_other_calls_between_change_nothing(self):
+        answers = [call(*copies(sample)) for call, samples in CALLS for sample in samples]
+        for call, samples in reversed(CALLS):
+            call(*copies(samples[1]))
+        self.assertEqual(answers, [call(*copies(sample)) for call, samples in CALLS for sample in samples])
+
     def test_answer_is_another_list(self):
-        for call in (fold, words):
-            text = [97]
-            self.assertIsNot(call(text), text)
-            self.assertIsNot(call(text), call(text))
+        for call, samples in CALLS:
+            for sample in samples:
+                given = copies(sample)
+                answer = call(*given)
+                self.assertFalse(any(answer is part for part in given))
+                self.assertIsNot(answer, call(*given))
 
     def test_changing_one_answer_leaves_the_other(self):
-        for call in (fold, words):
-            text = signs("ab 1")
-            first = call(text)
-            second = call(text)
-            first.clear()
-            self.assertEqual(second, call(text))
+        for call, samples in CALLS:
+            for sample in samples:
+                given = copies(sample)
+                first = call(*given)
+                second = call(*given)
+                first.clear()
+                self.assertEqual(second, call(*given))
+                self.assertEqual(given, list(sample))
 
     def test_answers_are_lists_of_whole_numbers(self):
-        for call in (fold, words):
-            for sample in SAMPLES:
-                answer = call(list(sample))
+        for call, samples in CALLS:
+            for sample in samples:
+                answer = call(*copies(sample))
                 self.assertIs(type(answer), list)
                 self.assertEqual({type(number) for number in answer}, {int})
 
     def test_nothing_is_printed(self):
         out = io.StringIO()
         with contextlib.redirect_stdout(out), contextlib.redirect_stderr(out):
-            for sample in SAMPLES:
-                fold(list(sample))
-                words(list(sample))
+            for call, samples in CALLS:
+                for sample in samples:
+                    call(*copies(sample))
         self.assertEqual(out.getvalue(), "")
 
-    def test_argument_is_called_text(self):
+    def test_names_of_arguments(self):
         self.assertEqual(desk.fold(text=[65]), [1, 97])
         self.assertEqual(desk.words(text=[65]), [1, 0, 1, 0, 0, 1, 97])
+        self.assertEqual(desk.apart(b=[97, 98], a=[]), [2])
+        self.assertEqual(desk.chain(b=[97], a=[]), [1, 0, 1, 97])
 
 
 if __name__ == "__main__":
