@@ -151,7 +151,7 @@ class TestPromise3(ChainCase):
             self.assertEqual(slips_apart(a, b), slips)
 
     def test_16_letters_first_of_all_rows(self):
-        for a, b, slips in LITTLE_IN_COMMON[-4:]:
+        for a, b, slips in LITTLE_IN_COMMON:
             self.check_first(self.check_slips(a, b))
 
     def test_16_letters_drawn(self):
