@@ -8,6 +8,7 @@ MOST_CHAINED = 16
 
 NO_WORD = -1
 TOO_MUCH = -2
+NONE_THERE = -3
 NO_CHARACTER = -6
 
 LAST_CHARACTER = 1114111
@@ -168,6 +169,23 @@ def chain(a, b):
     return answer
 
 
+def one(a):
+    """Answer how many different words are one slip from a word; or a refusal."""
+    if not is_word(a):
+        return [NO_WORD]
+    return [len(all_one_slip_away(a))]
+
+
+def nth(i, a):
+    """Answer the i-th, in order and from 0 on, of the words one slip from a word; or a refusal."""
+    if not is_word(a):
+        return [NO_WORD]
+    others = all_one_slip_away(a)
+    if i >= len(others):
+        return [NONE_THERE]
+    return [len(others[i])] + others[i]
+
+
 def refusal(text):
     """Give the answer that refuses the text, or an empty list if nothing is to be refused."""
     if len(text) > MOST_CHARACTERS:
@@ -304,6 +322,12 @@ def next_in_chain(word, goal, left):
     while slips_between(others[at], goal) != left:
         at += 1
     return others[at]
+
+
+def all_one_slip_away(word):
+    """Give, in order and each once, all words one slip from the word, but for those that are too long for a word."""
+    letters = [byte for byte in range(LAST_SMALL + 1) if is_letter(byte)]
+    return [other for other in one_slip_away(word, letters) if len(other) <= MOST_LETTERS]
 
 
 def one_slip_away(word, letters):

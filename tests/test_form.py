@@ -31,6 +31,23 @@ FORMS_NOT_USED = (
     ast.DictComp, ast.GeneratorExp, ast.NamedExpr, ast.Starred, ast.Div, ast.AnnAssign,
 )
 
+STATEMENTS = (
+    ast.FunctionDef, ast.ClassDef, ast.Assign, ast.AugAssign, ast.If, ast.While, ast.For, ast.Return, ast.Break,
+    ast.Continue, ast.Pass, ast.Raise, ast.Try, ast.Expr,
+)
+
+EXPRESSIONS = (
+    ast.Constant, ast.Name, ast.List, ast.Tuple, ast.Dict, ast.BinOp, ast.UnaryOp, ast.BoolOp, ast.Compare, ast.IfExp,
+    ast.Call, ast.Attribute, ast.Subscript, ast.Slice, ast.ListComp, ast.JoinedStr, ast.FormattedValue, ast.Lambda,
+)
+
+AS_A_KEY = ("len", "int", "str", "abs", "sum", "min", "max", "tuple")
+
+NAMES_NOT_USED = set(
+    "register mro elements open input version_info with_traceback add_note attrgetter breakpoint builtins compile"
+    " copyright credits delattr dir eval exec exit gc getattr globals hasattr help id importlib license locals"
+    " methodcaller os quit setattr super type vars sys __name__ format format_map".split())
+
 AT_THE_TOP = (ast.FunctionDef, ast.ClassDef, ast.Assign)
 
 KEYWORDS = {"sorted": {"key", "reverse"}, "min": {"key", "default"}, "max": {"key", "default"}, "sum": {"start"},
@@ -103,6 +120,25 @@ def names_changed(loop):
 def names_at_the_top(tree):
     """The names of the file's top that are given a value."""
     return {node.targets[0].id for node in tree.body if isinstance(node, ast.Assign)}
+
+
+def tables_at_the_top(tree):
+    """The names of the file's top that are lists, tuples or dicts."""
+    held = [node for node in tree.body if isinstance(node, ast.Assign)]
+    return {node.targets[0].id for node in held if isinstance(node.value, (ast.List, ast.Tuple, ast.Dict))}
+
+
+def only_read(tree):
+    """Every expression that is walked, asked with "in", indexed or measured: so it is only read."""
+    spots = walked_on_the_spot(tree)
+    for node in ast.walk(tree):
+        if isinstance(node, ast.Compare):
+            spots += node.comparators
+        elif isinstance(node, ast.Subscript):
+            spots.append(node.value)
+        elif called(node) == "len":
+            spots += node.args
+    return spots
 
 
 class TestForm(unittest.TestCase):
@@ -204,6 +240,68 @@ class TestForm(unittest.TestCase):
                 self.assertNotIsInstance(node, ast.Set)
                 if called(node) in ("set", "frozenset"):
                     self.assertIn(node, within, f"line {node.lineno}")
+
+    def test_statements_and_expressions(self):
+        for source, tree in each_file():
+            for node in ast.walk(tree):
+                if isinstance(node, ast.stmt):
+                    self.assertIsInstance(node, STATEMENTS, f"line {node.lineno}")
+                if isinstance(node, ast.expr):
+                    self.assertIsInstance(node, EXPRESSIONS, f"line {node.lineno}")
+                if isinstance(node, ast.Expr):
+                    self.assertIsInstance(node.value, (ast.Call, ast.Constant), f"line {node.lineno}")
+                if isinstance(node, ast.ListComp):
+                    self.assertEqual(len(node.generators), 1, f"line {node.lineno}")
+                    self.assertLessEqual(len(node.generators[0].ifs), 1, f"line {node.lineno}")
+
+    def test_is_stands_beside_none_true_and_false(self):
+        for source, tree in each_file():
+            for node in ast.walk(tree):
+                if isinstance(node, ast.Compare) and any(isinstance(op, (ast.Is, ast.IsNot)) for op in node.ops):
+                    self.assertIsInstance(getattr(node.comparators[-1], "value", 0.5), (bool, type(None)))
+
+    def test_classes(self):
+        for source, tree in each_file():
+            classes = [node for node in ast.walk(tree) if isinstance(node, ast.ClassDef)]
+            names = {node.name for node in classes}
+            for node in classes:
+                self.assertIn(node, tree.body)
+                self.assertLessEqual(len(node.bases), 1)
+                for part in node.body[1:]:
+                    self.assertIsInstance(part, ast.FunctionDef)
+            self.assertEqual([name for name in bound_names(tree) if name in names], [node.name for node in classes])
+
+    def test_names_that_are_not_used(self):
+        for source, tree in each_file():
+            used = {getattr(node, "id", getattr(node, "attr", "")) for node in ast.walk(tree)}
+            self.assertEqual((used | set(bound_names(tree))) & NAMES_NOT_USED, set())
+
+    def test_own_names_and_methods_are_called_where_they_stand(self):
+        for source, tree in each_file():
+            calls = [node.func for node in ast.walk(tree) if isinstance(node, ast.Call)]
+            keys = [node.value for node in ast.walk(tree) if isinstance(node, ast.keyword) and node.arg == "key"]
+            for node in ast.walk(tree):
+                if isinstance(node, ast.Name) and node.id in OWN_NAMES and hasattr(builtins, node.id):
+                    self.assertTrue(node in calls or node in keys and node.id in AS_A_KEY, f"line {node.lineno}")
+                if isinstance(node, ast.Attribute) and node.attr in OWN_METHODS:
+                    self.assertIn(node, calls, f"line {node.lineno}")
+
+    def test_numbers_and_texts(self):
+        for source, tree in each_file():
+            self.assertNotRegex(source, r"\\[^nt\\\"']")
+            for node in ast.walk(tree):
+                if isinstance(node, ast.Constant) and isinstance(node.value, str):
+                    self.assertNotIn("%", node.value)
+                if isinstance(node, ast.BinOp) and isinstance(node.op, ast.Pow):
+                    self.assertIn(getattr(node.right, "value", None), range(65), f"line {node.lineno}")
+
+    def test_tables_at_the_top_are_only_read(self):
+        for source, tree in each_file():
+            tables = tables_at_the_top(tree)
+            read = only_read(tree)
+            for node in ast.walk(tree):
+                if isinstance(node, ast.Name) and node.id in tables and isinstance(node.ctx, ast.Load):
+                    self.assertIn(node, read, f"line {node.lineno}")
 
     def test_nothing_at_the_top_is_changed(self):
         for source, tree in each_file():

@@ -6,7 +6,7 @@ import itertools
 import unittest
 
 from envelopewords import desk
-from envelopewords.desk import apart, chain, fold, words
+from envelopewords.desk import apart, chain, fold, nth, one, words
 from reference import signs
 
 TEXTS = (
@@ -35,12 +35,26 @@ PAIRS = (
     ([97] * 17, [0]),
 )
 
+WORDS = (
+    [],
+    signs("a"),
+    signs("aab"),
+    signs("1010"),
+    [97] * 31,
+    signs("0123456789abcdefghijklmnopqrstuv"),
+    [97] * 33,
+    [97] * 60,
+    [65],
+)
+
 # Of each call what it is handed, time after time.
 CALLS = (
     (fold, [(text,) for text in TEXTS]),
     (words, [(text,) for text in TEXTS]),
     (apart, PAIRS),
     (chain, PAIRS),
+    (one, [(word,) for word in WORDS]),
+    (nth, [(i, word) for word in WORDS for i in (0, 40, 1100, 4294967295)]),
 )
 
 
@@ -54,9 +68,9 @@ class Unchangeable(list):
     __setitem__ = __delitem__ = __iadd__ = __imul__ = refuse
 
 
-def copies(sample):
-    """What a call is handed, as lists of its own."""
-    return [list(given) for given in sample]
+def copies(sample, kind=list):
+    """What a call is handed, its lists as lists of this kind of its own."""
+    return [kind(given) if isinstance(given, list) else given for given in sample]
 
 
 def letters_alone(answer):
@@ -130,7 +144,7 @@ class TestEveryCall(unittest.TestCase):
                 given = copies(sample)
                 call(*given)
                 self.assertEqual(given, list(sample))
-                call(*[Unchangeable(part) for part in sample])
+                call(*copies(sample, Unchangeable))
 
     def test_one_list_handed_in_twice(self):
         for call in (apart, chain):
@@ -195,6 +209,8 @@ class TestEveryCall(unittest.TestCase):
         self.assertEqual(desk.words(text=[65]), [1, 0, 1, 0, 0, 1, 97])
         self.assertEqual(desk.apart(b=[97, 98], a=[]), [2])
         self.assertEqual(desk.chain(b=[97], a=[]), [1, 0, 1, 97])
+        self.assertEqual(desk.one(a=[97]), [107])
+        self.assertEqual(desk.nth(a=[97], i=1), [1, 48])
 
 
 if __name__ == "__main__":
