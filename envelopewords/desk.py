@@ -5,11 +5,18 @@ MOST_LINES = 8
 MOST_WORDS = 128
 MOST_LETTERS = 32
 MOST_CHAINED = 16
+MOST_LISTED = 4096
 
 NO_WORD = -1
 TOO_MUCH = -2
 NONE_THERE = -3
-NO_CHARACTER = -6
+WRONG_AT = -6
+
+PARTS = 0
+VANISHES = 1
+ENDS_A_LINE = 2
+NOT_WIDE = 3
+SEVERAL_LETTERS = 256
 
 LAST_CHARACTER = 1114111
 FIRST_SURROGATE = 55296
@@ -25,86 +32,34 @@ LAST_SMALL = 122
 # Each row: first character, last character, the letter of the first;
 # those behind the first stand for the letters that follow, one by one.
 RUNS = (
-    (0x30, 0x39, "0"),
-    (0x41, 0x5A, "a"),
-    (0x61, 0x7A, "a"),
-    (0x2074, 0x2079, "4"),
-    (0x2080, 0x2089, "0"),
-    (0xFF10, 0xFF19, "0"),
-    (0xFF21, 0xFF3A, "a"),
-    (0xFF41, 0xFF5A, "a"),
+    (0x30, 0x39, "0"), (0x41, 0x5A, "a"), (0x61, 0x7A, "a"),
+    (0x2074, 0x2079, "4"), (0x2080, 0x2089, "0"),
+    (0xFF10, 0xFF19, "0"), (0xFF21, 0xFF3A, "a"), (0xFF41, 0xFF5A, "a"),
 )
 
 # Each row: first character, last character, what every one of them stands for.
 # E0 to FE have no row: they are looked up as the one 20 less.
 ALIKE = (
-    (0xAA, 0xAA, "a"),
-    (0xB2, 0xB2, "2"),
-    (0xB3, 0xB3, "3"),
-    (0xB9, 0xB9, "1"),
-    (0xBA, 0xBA, "o"),
-    (0xC0, 0xC5, "a"),
-    (0xC6, 0xC6, "ae"),
-    (0xC7, 0xC7, "c"),
-    (0xC8, 0xCB, "e"),
-    (0xCC, 0xCF, "i"),
-    (0xD0, 0xD0, "d"),
-    (0xD1, 0xD1, "n"),
-    (0xD2, 0xD6, "o"),
-    (0xD8, 0xD8, "o"),
-    (0xD9, 0xDC, "u"),
-    (0xDD, 0xDD, "y"),
-    (0xDE, 0xDE, "th"),
-    (0xDF, 0xDF, "ss"),
-    (0xFF, 0xFF, "y"),
-    (0x100, 0x105, "a"),
-    (0x106, 0x10D, "c"),
-    (0x10E, 0x111, "d"),
-    (0x112, 0x11B, "e"),
-    (0x11C, 0x123, "g"),
-    (0x124, 0x127, "h"),
-    (0x128, 0x131, "i"),
-    (0x132, 0x133, "ij"),
-    (0x134, 0x135, "j"),
-    (0x136, 0x138, "k"),
-    (0x139, 0x142, "l"),
-    (0x143, 0x149, "n"),
-    (0x14A, 0x14B, "ng"),
-    (0x14C, 0x151, "o"),
-    (0x152, 0x153, "oe"),
-    (0x154, 0x159, "r"),
-    (0x15A, 0x161, "s"),
-    (0x162, 0x167, "t"),
-    (0x168, 0x173, "u"),
-    (0x174, 0x175, "w"),
-    (0x176, 0x178, "y"),
-    (0x179, 0x17E, "z"),
-    (0x17F, 0x17F, "s"),
-    (0x218, 0x219, "s"),
-    (0x21A, 0x21B, "t"),
-    (0x1E9E, 0x1E9E, "ss"),
-    (0x2070, 0x2070, "0"),
-    (0x2116, 0x2116, "no"),
-    (0xFB00, 0xFB00, "ff"),
-    (0xFB01, 0xFB01, "fi"),
-    (0xFB02, 0xFB02, "fl"),
-    (0xFB03, 0xFB03, "ffi"),
-    (0xFB04, 0xFB04, "ffl"),
-    (0xFB05, 0xFB06, "st"),
+    (0xAA, 0xAA, "a"), (0xB2, 0xB2, "2"), (0xB3, 0xB3, "3"), (0xB9, 0xB9, "1"), (0xBA, 0xBA, "o"),
+    (0xC0, 0xC5, "a"), (0xC6, 0xC6, "ae"), (0xC7, 0xC7, "c"), (0xC8, 0xCB, "e"),
+    (0xCC, 0xCF, "i"), (0xD0, 0xD0, "d"), (0xD1, 0xD1, "n"), (0xD2, 0xD6, "o"), (0xD8, 0xD8, "o"),
+    (0xD9, 0xDC, "u"), (0xDD, 0xDD, "y"), (0xDE, 0xDE, "th"), (0xDF, 0xDF, "ss"), (0xFF, 0xFF, "y"),
+    (0x100, 0x105, "a"), (0x106, 0x10D, "c"), (0x10E, 0x111, "d"), (0x112, 0x11B, "e"),
+    (0x11C, 0x123, "g"), (0x124, 0x127, "h"), (0x128, 0x131, "i"), (0x132, 0x133, "ij"),
+    (0x134, 0x135, "j"), (0x136, 0x138, "k"), (0x139, 0x142, "l"), (0x143, 0x149, "n"),
+    (0x14A, 0x14B, "ng"), (0x14C, 0x151, "o"), (0x152, 0x153, "oe"), (0x154, 0x159, "r"),
+    (0x15A, 0x161, "s"), (0x162, 0x167, "t"), (0x168, 0x173, "u"), (0x174, 0x175, "w"),
+    (0x176, 0x178, "y"), (0x179, 0x17E, "z"), (0x17F, 0x17F, "s"),
+    (0x218, 0x219, "s"), (0x21A, 0x21B, "t"),
+    (0x1E9E, 0x1E9E, "ss"), (0x2070, 0x2070, "0"), (0x2116, 0x2116, "no"),
+    (0xFB00, 0xFB00, "ff"), (0xFB01, 0xFB01, "fi"), (0xFB02, 0xFB02, "fl"), (0xFB03, 0xFB03, "ffi"),
+    (0xFB04, 0xFB04, "ffl"), (0xFB05, 0xFB06, "st"),
 )
 
 # Each row: first and last of characters that vanish.
 VANISHING = (
-    (0x27, 0x27),
-    (0x60, 0x60),
-    (0xAD, 0xAD),
-    (0xB4, 0xB4),
-    (0x2BC, 0x2BC),
-    (0x300, 0x36F),
-    (0x200B, 0x200D),
-    (0x2018, 0x2019),
-    (0x2060, 0x2060),
-    (0xFEFF, 0xFEFF),
+    (0x27, 0x27), (0x60, 0x60), (0xAD, 0xAD), (0xB4, 0xB4), (0x2BC, 0x2BC),
+    (0x300, 0x36F), (0x200B, 0x200D), (0x2018, 0x2019), (0x2060, 0x2060), (0xFEFF, 0xFEFF),
 )
 
 
@@ -186,15 +141,52 @@ def nth(i, a):
     return [len(others[i])] + others[i]
 
 
+def near(most, given, a):
+    """Answer how many words of a list are at most so many slips from a, then their numbers; or a refusal."""
+    refused = refusal_of_list(given)
+    if refused:
+        return refused
+    if not is_word(a):
+        return [NO_WORD]
+    # Pairs stand in order by their first number, equal ones by their second: the nearer ones first.
+    pairs = sorted([(slips_between(a, word), number) for number, word in enumerate(listed_words(given))])
+    numbers = [number for slips, number in pairs if slips <= most]
+    return [len(numbers)] + numbers
+
+
+def sorts(text):
+    """Answer how many numbers the text has, then of which sort each is; or a refusal."""
+    if len(text) > MOST_CHARACTERS:
+        return [TOO_MUCH]
+    return [len(text)] + [sort_of(number) for number in text]
+
+
 def refusal(text):
     """Give the answer that refuses the text, or an empty list if nothing is to be refused."""
     if len(text) > MOST_CHARACTERS:
         return [TOO_MUCH]
     for place, number in enumerate(text):
         if not is_wide(number):
-            return [NO_CHARACTER, place]
+            return [WRONG_AT, place]
     if beyond_bounds(words_of(text)):
         return [TOO_MUCH]
+    return []
+
+
+def refusal_of_list(given):
+    """Give the answer that refuses the words' list, or an empty list if nothing is to be refused."""
+    if len(given) > MOST_LISTED:
+        return [TOO_MUCH]
+    letters = 0
+    for place, byte in enumerate(given):
+        if is_letter(byte) and letters < MOST_LETTERS:
+            letters += 1
+        elif byte == LINE_FEED and letters > 0:
+            letters = 0
+        else:
+            return [WRONG_AT, place]
+    if letters > 0:
+        return [WRONG_AT, len(given)]
     return []
 
 
@@ -224,6 +216,18 @@ def vanishes(character):
         if first <= character <= last:
             return True
     return False
+
+
+def sort_of(number):
+    """Give the number that tells a number's sort: the letter itself where it stands for just one."""
+    if not is_wide(number):
+        return NOT_WIDE
+    letters = letters_of(number)
+    if letters:
+        return letters[0] if len(letters) == 1 else SEVERAL_LETTERS
+    if vanishes(number):
+        return VANISHES
+    return ENDS_A_LINE if number == LINE_FEED else PARTS
 
 
 def words_of(text):
@@ -279,6 +283,19 @@ def is_word(given):
 def is_letter(byte):
     """Tell whether the byte is a letter."""
     return FIRST_DIGIT <= byte <= LAST_DIGIT or FIRST_SMALL <= byte <= LAST_SMALL
+
+
+def listed_words(given):
+    """Give the words of a list, one after another."""
+    found = []
+    word = []
+    for byte in given:
+        if byte == LINE_FEED:
+            found.append(word)
+            word = []
+        else:
+            word.append(byte)
+    return found
 
 
 def slips_between(a, b):

@@ -3,7 +3,7 @@
 The table is written out row by row, without the program's short cuts; the words are found
 by a pattern over one mark a character. Slips are made one by one, and how far apart words are is
 found by walking from word to word; for longer words by a table that tries every pair that may
-change places. It shares no code with the package.
+change places. A list is held against a pattern. It shares no code with the package.
 """
 
 import functools
@@ -124,8 +124,8 @@ def fold(text):
     if refused:
         return refused
     plain = {"V": "", "E": "\n", "P": " "}
-    written = "".join(STAND[c] if mark(c) == "L" else plain[mark(c)] for c in text)
-    rows = [row.split() for row in written.split("\n")]
+    spelled = "".join(STAND[c] if mark(c) == "L" else plain[mark(c)] for c in text)
+    rows = [row.split() for row in spelled.split("\n")]
     folded = "\n".join(" ".join(row) for row in rows if row)
     return [len(folded)] + signs(folded)
 
@@ -142,9 +142,46 @@ def words(text):
     return answer
 
 
-def signs(written):
+def sort_of(number):
+    """What sorts answers of the number."""
+    if not is_wide(number):
+        return 3
+    letters = STAND.get(number, "")
+    if letters:
+        return ord(letters) if len(letters) == 1 else 256
+    return {"V": 1, "E": 2, "P": 0}[mark(number)]
+
+
+def signs(text):
     """The text as a list of numbers."""
-    return [ord(sign) for sign in written]
+    return [ord(sign) for sign in text]
+
+
+def written(numbers):
+    """The list of numbers as a text."""
+    return "".join(map(chr, numbers))
+
+
+def letters_alone(answer):
+    """What words answers, without the places and spans: line, digits, letters of each word."""
+    told = []
+    at = 1
+    while at < len(answer):
+        size = answer[at + 4]
+        told.append((answer[at + 2], answer[at + 3], answer[at + 5:at + 5 + size]))
+        at += 5 + size
+    return told
+
+
+def links(answer):
+    """The words of a chain as it's answered."""
+    found = []
+    at = 1
+    while at < len(answer):
+        size = answer[at]
+        found.append(written(answer[at + 1:at + 1 + size]))
+        at += 1 + size
+    return found
 
 
 LETTERS = "0123456789abcdefghijklmnopqrstuvwxyz"
@@ -229,15 +266,44 @@ def slips_apart(a, b):
     return far[len(a), len(b)]
 
 
+def listed(words):
+    """The words as a list that near takes: each with a line feed behind it."""
+    return signs("".join(word + "\n" for word in words))
+
+
+def list_refusal(given):
+    """What near answers of the list by itself if it refuses it, else None."""
+    if len(given) > 4096:
+        return [-2]
+    if re.fullmatch("(?:[0-9a-z]{1,32}\n)*", written(given)):
+        return None
+    # What may stand so far, with a word under way; what's behind it can't stand there.
+    return [-6, re.match("(?:[0-9a-z]{1,32}\n)*[0-9a-z]{0,32}", written(given)).end()]
+
+
+def numbers_near(most, far):
+    """What near answers when the list's words are so far away, one by one: picked out one distance after another."""
+    found = []
+    for slips in range(min(most, 32) + 1):
+        found += [number for number, away in enumerate(far) if away == slips]
+    return [len(found)] + found
+
+
+def draw(count, seed):
+    """So many numbers, none below 0; the same ones each time."""
+    state = seed
+    drawn = []
+    for _ in range(count):
+        state = (state * 1103515245 + 12345) % 2147483648
+        drawn.append(state >> 16)
+    return drawn
+
+
 def drawn_words(count, size, letters, seed):
     """So many words of at most the size, drawn from the letters; the same ones each time."""
-    state = seed
+    drawn = draw(count * (size + 1), seed)
     found = []
-    for _ in range(count):
-        drawn = []
-        for _ in range(size + 1):
-            state = (state * 1103515245 + 12345) % 2147483648
-            drawn.append(state >> 16)
-        length = size - drawn[0] % (size // 4 + 1)
-        found.append("".join(letters[number % len(letters)] for number in drawn[1:length + 1]))
+    for start in range(0, len(drawn), size + 1):
+        length = size - drawn[start] % (size // 4 + 1)
+        found.append("".join(letters[number % len(letters)] for number in drawn[start + 1:start + 1 + length]))
     return found

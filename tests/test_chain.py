@@ -5,7 +5,7 @@ import unittest
 
 import reference
 from envelopewords.desk import apart, chain
-from reference import LETTERS, in_order, one_slip_from, signs, slips_apart
+from reference import LETTERS, in_order, links, one_slip_from, signs, slips_apart
 
 # What lies between the two has been followed by hand.
 BY_HAND = (
@@ -33,21 +33,6 @@ LITTLE_IN_COMMON = (
     ("0123456789abcdef", "z", 16),
     ("8pmayc4a4mwcccac", "zyxttrjjifdca700", 15),
 )
-
-
-def written(letters):
-    return "".join(map(chr, letters))
-
-
-def links(answer):
-    """The words of a chain as it's answered."""
-    found = []
-    at = 1
-    while at < len(answer):
-        size = answer[at]
-        found.append(written(answer[at + 1:at + 1 + size]))
-        at += 1 + size
-    return found
 
 
 def told(row):

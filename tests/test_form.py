@@ -57,6 +57,12 @@ WALKED_AT_ONCE = ("range", "enumerate", "zip", "reversed")
 
 WALK_IN_A_CALL = ("list", "tuple", "dict", "sorted", "sum", "any", "all", "enumerate", "zip", "min", "max")
 
+PYTHONS_OWN = {name for kind in (str, int, list, tuple, dict, set, frozenset, bytes) for name in dir(kind)}
+
+OWN_VALUES = set("count index title find get join lower upper split strip copy add".split())
+
+FILES_NOT_CALLED = set("test tests testing site conftest sitecustomize usercustomize".split())
+
 CHANGING = ("append", "clear", "extend", "insert", "pop", "remove", "reverse", "setdefault", "update")
 
 
@@ -117,6 +123,12 @@ def names_changed(loop):
     return names - {""}
 
 
+def own_calls(tree):
+    """Of each function of the file's top: the functions of the file's top that it calls."""
+    functions = {node.name: node for node in tree.body if isinstance(node, ast.FunctionDef)}
+    return {name: {called(inner) for inner in ast.walk(node)} & set(functions) for name, node in functions.items()}
+
+
 def names_at_the_top(tree):
     """The names of the file's top that are given a value."""
     return {node.targets[0].id for node in tree.body if isinstance(node, ast.Assign)}
@@ -149,6 +161,8 @@ class TestForm(unittest.TestCase):
         self.assertIn("desk.py", names)
         for name in names:
             self.assertRegex(name, r"^[a-z0-9_]+\.py$")
+            plain = name.removesuffix(".py")
+            self.assertFalse(plain in FILES_NOT_CALLED or plain.startswith("test_") or plain in vars(builtins), name)
 
     def test_sizes_and_signs(self):
         for source, tree in each_file():
@@ -302,6 +316,56 @@ class TestForm(unittest.TestCase):
             for node in ast.walk(tree):
                 if isinstance(node, ast.Name) and node.id in tables and isinstance(node.ctx, ast.Load):
                     self.assertIn(node, read, f"line {node.lineno}")
+
+    def test_functions_do_not_call_one_another_in_a_ring(self):
+        for source, tree in each_file():
+            calls = own_calls(tree)
+            # One after another those that call none of the others left are taken away: in a ring none is such.
+            while calls:
+                ends = [name for name in calls if not calls[name] & set(calls)]
+                self.assertNotEqual(ends, [], calls)
+                calls = {name: calls[name] for name in calls if name not in ends}
+
+    def test_no_annotations(self):
+        for source, tree in each_file():
+            for node in ast.walk(tree):
+                self.assertIsNone(getattr(node, "annotation", None))
+                self.assertIsNone(getattr(node, "returns", None))
+
+    def test_classes_are_called_alone(self):
+        for source, tree in each_file():
+            names = {node.name for node in tree.body if isinstance(node, ast.ClassDef)}
+            calls = [node.func for node in ast.walk(tree) if isinstance(node, ast.Call)]
+            for node in ast.walk(tree):
+                if isinstance(node, ast.Name) and node.id in names:
+                    self.assertIn(node, calls, f"line {node.lineno}")
+
+    def test_own_methods_and_values(self):
+        for source, tree in each_file():
+            methods = {part.name for node in tree.body if isinstance(node, ast.ClassDef)
+                       for part in node.body if isinstance(part, ast.FunctionDef)}
+            given = [node for node in ast.walk(tree) if isinstance(node, ast.Attribute)
+                     and isinstance(node.ctx, ast.Store)]
+            values = {node.attr for node in given}
+            self.assertEqual((methods - {"__init__"}) & (PYTHONS_OWN - OWN_METHODS - {"add", "discard"}), set())
+            self.assertEqual(values & (PYTHONS_OWN - OWN_VALUES | {"args"}), set())
+            self.assertEqual(values & methods, set())
+            for node in given:
+                self.assertEqual(getattr(node.value, "id", ""), "self", f"line {node.lineno}")
+
+    def test_no_errors_are_raised_or_taken(self):
+        # No refusal is an error here: each is an answer.
+        for source, tree in each_file():
+            for node in ast.walk(tree):
+                self.assertNotIsInstance(node, (ast.Raise, ast.Try))
+
+    def test_f_strings_are_plain(self):
+        for source, tree in each_file():
+            for node in ast.walk(tree):
+                if isinstance(node, ast.FormattedValue):
+                    self.assertIsInstance(node.value, ast.Name)
+                    self.assertIn(node.conversion, (-1, ord("r")))
+                    self.assertIsNone(node.format_spec)
 
     def test_nothing_at_the_top_is_changed(self):
         for source, tree in each_file():

@@ -4,7 +4,7 @@ import itertools
 import unittest
 
 from envelopewords.desk import apart, nth, one
-from reference import LETTERS, drawn_words, in_order, one_slip_from, signs, words_up_to
+from reference import LETTERS, drawn_words, in_order, one_slip_from, signs, words_up_to, written
 
 ASCENDING_31 = LETTERS[:31]
 ASCENDING_32 = LETTERS[:32]
@@ -89,7 +89,7 @@ def all_told(word):
     for answer in answers:
         if answer[0] != len(answer) - 1:
             raise AssertionError(f"of {word!r} nth answers {answer}")
-    return ["".join(map(chr, answer[1:])) for answer in answers]
+    return [written(answer[1:]) for answer in answers]
 
 
 class TestOne(unittest.TestCase):

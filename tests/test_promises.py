@@ -6,8 +6,8 @@ import itertools
 import unittest
 
 from envelopewords import desk
-from envelopewords.desk import apart, chain, fold, nth, one, words
-from reference import signs
+from envelopewords.desk import apart, chain, fold, near, nth, one, sorts, words
+from reference import letters_alone, listed, signs
 
 TEXTS = (
     [],
@@ -47,6 +47,18 @@ WORDS = (
     [65],
 )
 
+LISTS = (
+    [],
+    listed(["wien", "bern", "wien", "a"]),
+    listed(["a" * 32]),
+    [97, 10] * 2048,
+    [97, 10] * 2048 + [97],
+    signs("a\nb"),
+    [10],
+    [97] * 33,
+    signs("A\n"),
+)
+
 # Of each call what it is handed, time after time.
 CALLS = (
     (fold, [(text,) for text in TEXTS]),
@@ -55,6 +67,8 @@ CALLS = (
     (chain, PAIRS),
     (one, [(word,) for word in WORDS]),
     (nth, [(i, word) for word in WORDS for i in (0, 40, 1100, 4294967295)]),
+    (near, [(most, given, word) for given in LISTS for word in WORDS[::2] for most in (0, 2, 4294967295)]),
+    (sorts, [(text,) for text in TEXTS]),
 )
 
 
@@ -71,17 +85,6 @@ class Unchangeable(list):
 def copies(sample, kind=list):
     """What a call is handed, its lists as lists of this kind of its own."""
     return [kind(given) if isinstance(given, list) else given for given in sample]
-
-
-def letters_alone(answer):
-    """What words answers, without the places and spans: line, digits, letters of each word."""
-    told = []
-    at = 1
-    while at < len(answer):
-        size = answer[at + 4]
-        told.append((answer[at + 2], answer[at + 3], answer[at + 5:at + 5 + size]))
-        at += 5 + size
-    return told
 
 
 class TestFoldedAgain(unittest.TestCase):
@@ -152,6 +155,10 @@ class TestEveryCall(unittest.TestCase):
                 given = list(a)
                 self.assertEqual(call(given, given), call(list(a), list(a)))
                 self.assertEqual(given, a)
+        for given in LISTS:
+            kept = list(given)
+            self.assertEqual(near(1, given, given), near(1, list(kept), list(kept)))
+            self.assertEqual(given, kept)
 
     def test_nothing_is_kept(self):
         for call, samples in CALLS:
@@ -211,6 +218,8 @@ class TestEveryCall(unittest.TestCase):
         self.assertEqual(desk.chain(b=[97], a=[]), [1, 0, 1, 97])
         self.assertEqual(desk.one(a=[97]), [107])
         self.assertEqual(desk.nth(a=[97], i=1), [1, 48])
+        self.assertEqual(desk.near(a=[97], given=[98, 10, 97, 10], most=1), [2, 1, 0])
+        self.assertEqual(desk.sorts(text=[65]), [1, 97])
 
 
 if __name__ == "__main__":

@@ -119,12 +119,8 @@ class TestAgainstReference(unittest.TestCase):
 
     def test_long_texts(self):
         pool = [0x61, 0x5A, 0x37, 0xFB04, 0xDF, ACUTE, 0xAD, 32, 44, 10, 0x1F600, 0xE9]
-        state = 1
         for size in range(0, 513, 8):
-            text = []
-            for step in range(size):
-                state = (state * 1103515245 + 12345) % 2147483648
-                text.append(pool[(state >> 16) % len(pool)])
+            text = [pool[number % len(pool)] for number in reference.draw(size, size + 1)]
             # With line ends as they fall most long texts are refused; without them most are not.
             self.check(text)
             self.check([32 if c == 10 else c for c in text])
